@@ -1,0 +1,42 @@
+package decl
+
+import (
+	"strings"
+
+	"relay/api"
+)
+
+// pou reads a POU behind its first word; another word ends it.
+func (p *parser) pou(what int, end string) {
+	name := p.newName(len(p.project.Pous) < api.MaxPous)
+	pou := api.Pou{What: what, Name: name.Text, At: name.At, Source: p.source}
+	if what == api.PouFunction {
+		p.want(":")
+		pou.Result = p.simple()
+	}
+	s := newScope(what, name.Text)
+	p.sections(&s)
+	pou.Vars = s.vars
+	p.body(&pou, end)
+	p.names[name.Text]++
+	p.project.Pous = append(p.project.Pous, pou)
+}
+
+// body takes a body as it stands, up to the word that ends it.
+func (p *parser) body(pou *api.Pou, end string) {
+	pou.Lang, pou.From = api.LangST, p.tokens[p.next-1].End
+	first := p.peek()
+	if lang := p.langs[first.Text]; first.Kind == api.TokPragma && lang > 0 {
+		pou.Lang, pou.From = lang, first.End
+	}
+	for p.next < len(p.tokens) && !p.atPouEnd() {
+		p.next++
+	}
+	last := p.peek().At
+	p.want(end)
+	pou.Text = strings.Clone(p.text[pou.From:last])
+}
+
+func (p *parser) atPouEnd() bool {
+	return p.sees("END_FUNCTION") || p.sees("END_FUNCTION_BLOCK") || p.sees("END_PROGRAM")
+}
