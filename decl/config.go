@@ -1,6 +1,9 @@
 package decl
 
-import "relay/api"
+import (
+	"relay/api"
+	"relay/words"
+)
 
 const (
 	intervalName = "INTERVAL"
@@ -11,61 +14,61 @@ const (
 
 // configuration reads the configuration behind its first word.
 func (p *parser) configuration() {
-	name := p.name()
-	must(!p.isSet, name.At, api.ErrTwice)
+	name := p.Name()
+	words.Must(!p.isSet, name.At, api.ErrTwice)
 	p.sections(&p.globals)
-	p.want("RESOURCE")
-	p.project.Name, p.project.Source = p.name().Text, p.source
-	p.want("ON")
-	p.name()
+	p.Want("RESOURCE")
+	p.project.Name, p.project.Source = p.Name().Text, p.source
+	p.Want("ON")
+	p.Name()
 	p.sections(&p.globals)
 	tasks := map[string]int{}
-	for p.takes("TASK") {
+	for p.Takes("TASK") {
 		p.task(tasks)
 	}
 	runs := map[string]int{}
-	for p.takes("PROGRAM") {
+	for p.Takes("PROGRAM") {
 		p.run(runs, tasks)
 	}
-	p.want("END_RESOURCE")
-	p.want("END_CONFIGURATION")
+	p.Want("END_RESOURCE")
+	p.Want("END_CONFIGURATION")
 	p.isSet = true
 }
 
 // task reads a task behind its first word.
 func (p *parser) task(tasks map[string]int) {
-	name := p.name()
-	must(len(p.project.Tasks) < api.MaxTasks, name.At, api.ErrFull)
-	must(tasks[name.Text] == 0, name.At, api.ErrTwice)
+	name := p.Name()
+	words.Must(len(p.project.Tasks) < api.MaxTasks, name.At, api.ErrFull)
+	words.Must(tasks[name.Text] == 0, name.At, api.ErrTwice)
 	task := api.Task{Name: name.Text, At: name.At}
-	p.want("(")
+	p.Want("(")
 	p.trigger(&task)
-	p.want(",")
+	p.Want(",")
 	p.wantName(priorityName)
-	p.want(":=")
-	at := p.peek().At
+	p.Want(":=")
+	at := p.Peek().At
 	task.Priority = p.number()
-	must(task.Priority >= 0 && task.Priority <= maxPriority, at, api.ErrSpec)
-	p.want(")")
-	p.want(";")
+	words.Must(task.Priority >= 0 && task.Priority <= maxPriority, at, api.ErrSpec)
+	p.Want(")")
+	p.Want(";")
 	tasks[name.Text]++
 	p.project.Tasks = append(p.project.Tasks, task)
 }
 
 // trigger reads what lets a task run: a span that goes by, or a global that rises.
 func (p *parser) trigger(task *api.Task) {
-	word := p.name()
-	must(word.Text == intervalName || word.Text == singleName, word.At, api.ErrToken)
-	p.want(":=")
+	word := p.Name()
+	words.Must(word.Text == intervalName || word.Text == singleName, word.At, api.ErrToken)
+	p.Want(":=")
 	if word.Text == singleName {
-		name := p.name()
-		must(p.globals.hasBool(name.Text), name.At, api.ErrUnknown)
+		name := p.Name()
+		words.Must(p.globals.hasBool(name.Text), name.At, api.ErrUnknown)
 		task.Single = name.Text
 		return
 	}
-	span := p.token(api.TokLit)
+	span := p.Token(api.TokLit)
 	task.Interval = int(span.Value.Bits)
-	must(span.Value.Kind == api.KTime && task.Interval > 0, span.At, api.ErrSpec)
+	words.Must(span.Value.Kind == api.KTime && task.Interval > 0, span.At, api.ErrSpec)
 }
 
 // hasBool tells whether a variable of that name is a BOOL.
@@ -76,18 +79,18 @@ func (s *scope) hasBool(name string) bool {
 
 // run reads a program's instance behind its first word.
 func (p *parser) run(runs, tasks map[string]int) {
-	name := p.name()
-	must(len(p.project.Runs) < api.MaxRuns, name.At, api.ErrFull)
-	must(runs[name.Text] == 0, name.At, api.ErrTwice)
+	name := p.Name()
+	words.Must(len(p.project.Runs) < api.MaxRuns, name.At, api.ErrFull)
+	words.Must(runs[name.Text] == 0, name.At, api.ErrTwice)
 	run := api.Run{Name: name.Text, At: name.At}
-	if p.takes("WITH") {
-		task := p.name()
-		must(tasks[task.Text] > 0, task.At, api.ErrUnknown)
+	if p.Takes("WITH") {
+		task := p.Name()
+		words.Must(tasks[task.Text] > 0, task.At, api.ErrUnknown)
 		run.Task = task.Text
 	}
-	p.want(":")
-	run.Pou = p.name().Text
-	p.want(";")
+	p.Want(":")
+	run.Pou = p.Name().Text
+	p.Want(";")
 	runs[name.Text]++
 	p.project.Runs = append(p.project.Runs, run)
 }

@@ -1,6 +1,9 @@
 package decl
 
-import "relay/api"
+import (
+	"relay/api"
+	"relay/words"
+)
 
 // parser keeps what is declared so far, source by source.
 type parser struct {
@@ -42,38 +45,38 @@ func (p *parser) declared() api.Project {
 
 // declarations reads a source.
 func (p *parser) declarations() {
-	for p.next < len(p.tokens) {
+	for !p.Done() {
 		switch {
-		case p.takes("TYPE"):
+		case p.Takes("TYPE"):
 			p.typeList()
-		case p.takes("FUNCTION"):
+		case p.Takes("FUNCTION"):
 			p.pou(api.PouFunction, "END_FUNCTION")
-		case p.takes("FUNCTION_BLOCK"):
+		case p.Takes("FUNCTION_BLOCK"):
 			p.pou(api.PouBlock, "END_FUNCTION_BLOCK")
-		case p.takes("PROGRAM"):
+		case p.Takes("PROGRAM"):
 			p.pou(api.PouProgram, "END_PROGRAM")
-		case p.takes("CONFIGURATION"):
+		case p.Takes("CONFIGURATION"):
 			p.configuration()
 		default:
-			fail(p.peek().At, api.ErrToken)
+			words.Fail(p.Peek().At, api.ErrToken)
 		}
 	}
 }
 
 // newName is a name that no type, POU or standard block has yet, if one more may be.
 func (p *parser) newName(room bool) api.Token {
-	t := p.name()
-	must(room, t.At, api.ErrFull)
-	must(p.names[t.Text] == 0, t.At, api.ErrTwice)
+	t := p.Name()
+	words.Must(room, t.At, api.ErrFull)
+	words.Must(p.names[t.Text] == 0, t.At, api.ErrTwice)
 	return t
 }
 
 func (p *parser) typeList() {
-	for !p.takes("END_TYPE") {
+	for !p.Takes("END_TYPE") {
 		name := p.newName(len(p.project.Types) < api.MaxTypes)
-		p.want(":")
+		p.Want(":")
 		t := p.typeOrEnum()
-		p.want(";")
+		p.Want(";")
 		p.names[name.Text]++
 		p.types[name.Text] = t
 		p.project.Types = append(p.project.Types, api.Named{Name: name.Text, At: name.At, Type: t})
@@ -81,25 +84,25 @@ func (p *parser) typeList() {
 }
 
 func (p *parser) typeOrEnum() api.Type {
-	if !p.takes("(") {
+	if !p.Takes("(") {
 		return p.spec()
 	}
 	last := 0
 	p.constant(last)
-	for p.takes(",") {
+	for p.Takes(",") {
 		last++
 		p.constant(last)
 	}
-	p.want(")")
+	p.Want(")")
 	return api.Type{Kind: api.KInt, Sub: true, Hi: last}
 }
 
 // constant is a name of an enumeration, of the number n.
 func (p *parser) constant(n int) {
-	name := p.name()
-	must(len(p.project.Consts) < api.MaxConsts, name.At, api.ErrFull)
+	name := p.Name()
+	words.Must(len(p.project.Consts) < api.MaxConsts, name.At, api.ErrFull)
 	_, isConst := p.consts[name.Text]
-	must(!isConst && !p.globals.has(name.Text), name.At, api.ErrTwice)
+	words.Must(!isConst && !p.globals.has(name.Text), name.At, api.ErrTwice)
 	p.consts[name.Text] = n
 	p.project.Consts = append(p.project.Consts, api.Const{Name: name.Text, At: name.At, Value: ordinal(n)})
 }

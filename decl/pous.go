@@ -11,7 +11,7 @@ func (p *parser) pou(what int, end string) {
 	name := p.newName(len(p.project.Pous) < api.MaxPous)
 	pou := api.Pou{What: what, Name: name.Text, At: name.At, Source: p.source}
 	if what == api.PouFunction {
-		p.want(":")
+		p.Want(":")
 		pou.Result = p.simple()
 	}
 	s := newScope(what, name.Text)
@@ -24,19 +24,19 @@ func (p *parser) pou(what int, end string) {
 
 // body takes a body as it stands, up to the word that ends it.
 func (p *parser) body(pou *api.Pou, end string) {
-	pou.Lang, pou.From = api.LangST, p.tokens[p.next-1].End
-	first := p.peek()
+	pou.Lang, pou.From = api.LangST, p.Behind()
+	first := p.Peek()
 	if lang := p.langs[first.Text]; first.Kind == api.TokPragma && lang > 0 {
 		pou.Lang, pou.From = lang, first.End
 	}
-	for p.next < len(p.tokens) && !p.atPouEnd() {
-		p.next++
+	for !p.Done() && !p.atPouEnd() {
+		p.Skip()
 	}
-	last := p.peek().At
-	p.want(end)
+	last := p.Peek().At
+	p.Want(end)
 	pou.Text = strings.Clone(p.text[pou.From:last])
 }
 
 func (p *parser) atPouEnd() bool {
-	return p.sees("END_FUNCTION") || p.sees("END_FUNCTION_BLOCK") || p.sees("END_PROGRAM")
+	return p.Sees("END_FUNCTION") || p.Sees("END_FUNCTION_BLOCK") || p.Sees("END_PROGRAM")
 }

@@ -5,6 +5,7 @@ import (
 
 	"relay/api"
 	"relay/value"
+	"relay/words"
 )
 
 // typeReader reads types, some of which have names.
@@ -15,12 +16,12 @@ type typeReader struct {
 
 // spec is a type as a variable has it: an array and a block's, too.
 func (r *typeReader) spec() api.Type {
-	first := r.peek()
+	first := r.Peek()
 	switch {
-	case r.takes("ARRAY"):
+	case r.Takes("ARRAY"):
 		return r.array(first.At)
 	case first.Kind == api.TokName:
-		r.next++
+		r.Skip()
 		if t, known := r.types[first.Text]; known {
 			return t
 		}
@@ -31,55 +32,55 @@ func (r *typeReader) spec() api.Type {
 
 // array is the array whose first word stood at a place.
 func (r *typeReader) array(at int) api.Type {
-	r.want("[")
+	r.Want("[")
 	from, to := r.bounds()
-	r.want("]")
-	r.want("OF")
+	r.Want("]")
+	r.Want("OF")
 	t := r.simple()
-	must(elements(from, to) > 0 && from >= math.MinInt32 && to <= math.MaxInt32, at, api.ErrSpec)
+	words.Must(elements(from, to) > 0 && from >= math.MinInt32 && to <= math.MaxInt32, at, api.ErrSpec)
 	t.Array, t.From, t.To = true, from, to
 	return t
 }
 
 // simple is a type of one element.
 func (r *typeReader) simple() api.Type {
-	first := r.peek()
+	first := r.Peek()
 	kind, isKind := value.Kind(first.Text)
 	switch {
 	case first.Kind == api.TokName:
-		r.next++
+		r.Skip()
 		t, known := r.types[first.Text]
-		must(known && !t.Array, first.At, api.ErrSpec)
+		words.Must(known && !t.Array, first.At, api.ErrSpec)
 		return t
-	case r.takes("STRING"):
+	case r.Takes("STRING"):
 		return r.texts(first.At)
 	case first.Kind == api.TokWord && isKind:
-		r.next++
+		r.Skip()
 		return r.within(kind, first.At)
 	}
-	fail(first.At, api.ErrToken)
+	words.Fail(first.At, api.ErrToken)
 	return api.Type{}
 }
 
 // texts is the type of texts, perhaps with a length, whose first word stood at a place.
 func (r *typeReader) texts(at int) api.Type {
-	if !r.takes("[") {
+	if !r.Takes("[") {
 		return api.Type{Kind: api.KString}
 	}
 	most := r.number()
-	r.want("]")
-	must(most >= 1 && most <= api.MaxText, at, api.ErrSpec)
+	r.Want("]")
+	words.Must(most >= 1 && most <= api.MaxText, at, api.ErrSpec)
 	return api.Type{Kind: api.KString, Max: most}
 }
 
 // within is a kind, whose word stood at a place, perhaps with bounds.
 func (r *typeReader) within(k api.Kind, at int) api.Type {
-	if !r.takes("(") {
+	if !r.Takes("(") {
 		return api.Type{Kind: k}
 	}
 	low, high := r.bounds()
-	r.want(")")
-	must(isInteger(k) && low <= high && has(k, low) && has(k, high), at, api.ErrSpec)
+	r.Want(")")
+	words.Must(isInteger(k) && low <= high && has(k, low) && has(k, high), at, api.ErrSpec)
 	return api.Type{Kind: k, Sub: true, Lo: low, Hi: high}
 }
 

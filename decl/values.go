@@ -5,6 +5,7 @@ import (
 
 	"relay/api"
 	"relay/value"
+	"relay/words"
 )
 
 const maxWholeFloat = 1 << 53
@@ -25,34 +26,34 @@ type written struct {
 
 // initial is the initial values of variables of a class and a type, if some are told.
 func (p *parser) initial(class int, t api.Type) []api.Value {
-	at := p.peek().At
-	if !p.takes(":=") {
+	at := p.Peek().At
+	if !p.Takes(":=") {
 		return nil
 	}
-	must(class != api.VarInOut && class != api.VarExternal && t.Block == "", at, api.ErrInit)
-	isList := p.takes("[")
+	words.Must(class != api.VarInOut && class != api.VarExternal && t.Block == "", at, api.ErrInit)
+	isList := p.Takes("[")
 	w := p.written()
-	must(isList == t.Array, w.at, api.ErrInit)
+	words.Must(isList == t.Array, w.at, api.ErrInit)
 	l := []api.Value{p.made(t, w)}
 	if !isList {
 		return l
 	}
-	for p.takes(",") {
+	for p.Takes(",") {
 		w = p.written()
-		must(len(l) < Cells(t), w.at, api.ErrInit)
+		words.Must(len(l) < Cells(t), w.at, api.ErrInit)
 		l = append(l, p.made(t, w))
 	}
-	p.want("]")
+	p.Want("]")
 	return l
 }
 
 func (p *parser) written() written {
-	w := written{at: p.peek().At}
-	w.below = p.takes("-")
-	w.token = p.peek()
+	w := written{at: p.Peek().At}
+	w.below = p.Takes("-")
+	w.token = p.Peek()
 	isName := w.token.Kind == api.TokName && !w.below
-	must(isName || w.token.Kind == api.TokLit, w.token.At, api.ErrToken)
-	p.next++
+	words.Must(isName || w.token.Kind == api.TokLit, w.token.At, api.ErrToken)
+	p.Skip()
 	return w
 }
 
@@ -62,12 +63,12 @@ func (p *parser) made(t api.Type, w written) api.Value {
 	can := true
 	if w.token.Kind == api.TokName {
 		n, known := p.consts[w.token.Text]
-		must(known, w.at, api.ErrUnknown)
+		words.Must(known, w.at, api.ErrUnknown)
 		v = ordinal(n)
 	} else {
 		v, can = ofLiteral(t.Kind, w.token.Value, w.below)
 	}
-	must(can && value.Fits(t, v) == api.FaultNone, w.at, api.ErrInit)
+	words.Must(can && value.Fits(t, v) == api.FaultNone, w.at, api.ErrInit)
 	return v
 }
 

@@ -5,6 +5,7 @@ import (
 
 	"relay/api"
 	"relay/lex"
+	"relay/words"
 )
 
 // noPou is what a configuration is, beside api's functions, blocks and programs.
@@ -52,13 +53,13 @@ func mayFix(class int) bool {
 // sections reads all sections that stand one behind the other.
 func (p *parser) sections(s *scope) {
 	for {
-		t := p.peek()
+		t := p.Peek()
 		class := p.classes[t.Text]
 		if t.Kind != api.TokWord || class == 0 {
 			return
 		}
-		must(s.may(class), t.At, api.ErrToken)
-		p.next++
+		words.Must(s.may(class), t.At, api.ErrToken)
+		p.Skip()
 		p.section(s, class)
 	}
 }
@@ -66,18 +67,18 @@ func (p *parser) sections(s *scope) {
 // section reads a section behind its word.
 func (p *parser) section(s *scope, class int) {
 	shape := api.Var{Class: class}
-	t := p.peek()
+	t := p.Peek()
 	switch {
-	case p.takes("RETAIN"):
-		must(s.mayKeep(class), t.At, api.ErrToken)
+	case p.Takes("RETAIN"):
+		words.Must(s.mayKeep(class), t.At, api.ErrToken)
 		shape.Keep = true
-	case p.takes("CONSTANT"):
-		must(mayFix(class), t.At, api.ErrToken)
+	case p.Takes("CONSTANT"):
+		words.Must(mayFix(class), t.At, api.ErrToken)
 		shape.Fixed = true
 	}
-	for !p.takes("END_VAR") {
+	for !p.Takes("END_VAR") {
 		p.vars(s, shape)
-		p.want(";")
+		p.Want(";")
 	}
 }
 
@@ -85,11 +86,11 @@ func (p *parser) section(s *scope, class int) {
 func (p *parser) vars(s *scope, shape api.Var) {
 	first := len(s.vars)
 	p.variable(s, shape)
-	for p.takes(",") {
+	for p.Takes(",") {
 		p.variable(s, shape)
 	}
 	at := p.address(s, len(s.vars)-first == 1)
-	p.want(":")
+	p.Want(":")
 	t := p.typeOf(s, shape.Class, at)
 	init := p.initial(shape.Class, t)
 	for i := range s.vars[first:] {
@@ -102,11 +103,11 @@ func (p *parser) vars(s *scope, shape api.Var) {
 
 // variable reads a variable's name.
 func (p *parser) variable(s *scope, shape api.Var) {
-	name := p.name()
-	must(len(s.vars) < api.MaxVars, name.At, api.ErrFull)
+	name := p.Name()
+	words.Must(len(s.vars) < api.MaxVars, name.At, api.ErrFull)
 	_, isConst := p.consts[name.Text]
 	isTaken := s.has(name.Text) || s.what == api.PouFunction && name.Text == s.name || s.what == noPou && isConst
-	must(!isTaken, name.At, api.ErrTwice)
+	words.Must(!isTaken, name.At, api.ErrTwice)
 	shape.Name, shape.At = name.Text, name.At
 	s.known[name.Text] = len(s.vars)
 	s.vars = append(s.vars, shape)
@@ -114,23 +115,23 @@ func (p *parser) variable(s *scope, shape api.Var) {
 
 // address is the word behind AT, if that is next.
 func (p *parser) address(s *scope, alone bool) api.Token {
-	if !p.takes("AT") {
+	if !p.Takes("AT") {
 		return api.Token{}
 	}
-	t := p.token(api.TokAddr)
+	t := p.Token(api.TokAddr)
 	isTaken := slices.ContainsFunc(s.vars, func(v api.Var) bool { return v.Addr == t.Text })
-	must(s.what == noPou && alone && !isTaken, t.At, api.ErrAddr)
+	words.Must(s.what == noPou && alone && !isTaken, t.At, api.ErrAddr)
 	return t
 }
 
 // typeOf is the type of variables of a class, perhaps at an address.
 func (p *parser) typeOf(s *scope, class int, at api.Token) api.Type {
-	first := p.peek().At
+	first := p.Peek().At
 	t := p.spec()
-	must(mayBe(s.what, class, t), first, api.ErrSpec)
+	words.Must(mayBe(s.what, class, t), first, api.ErrSpec)
 	if at.Text != "" {
 		bits, _, _ := lex.IsAddr(at.Text)
-		must(!t.Array && !t.Sub && bits == width(t.Kind), at.At, api.ErrAddr)
+		words.Must(!t.Array && !t.Sub && bits == width(t.Kind), at.At, api.ErrAddr)
 	}
 	return t
 }
