@@ -109,7 +109,8 @@ func (p *printer) literal(v api.Value) {
 
 func (p *printer) arguments(l argList) {
 	p.must(len(l.exprs) == len(l.names) && len(l.outs) == len(l.outNames))
-	between := "("
+	p.put("(")
+	between := ""
 	for i, e := range l.exprs {
 		p.put(between)
 		if l.names[i] != "" {
@@ -122,9 +123,6 @@ func (p *printer) arguments(l argList) {
 		p.put(between, l.outNames[i], " => ")
 		p.expr(e, levelOr)
 		between = ", "
-	}
-	if between == "(" {
-		p.put(between)
 	}
 	p.put(")")
 }
