@@ -1,7 +1,6 @@
 package il
 
 import (
-	"errors"
 	"slices"
 	"strings"
 
@@ -26,14 +25,6 @@ type lineReader struct{ words.Reader }
 
 func newLineReader(list []api.Token) *lineReader {
 	return &lineReader{words.Of(list, list[len(list)-1].End)}
-}
-
-// pass gives up with the fault that a layer below has found.
-func pass(err error) {
-	var fault api.Fault
-	if errors.As(err, &fault) {
-		words.Fail(fault.At, fault.Why)
-	}
 }
 
 func (r *lineReader) instruction() api.IlInstr {
@@ -98,7 +89,7 @@ func (r *lineReader) operands() []api.Expr {
 func (r *lineReader) operand(is func(api.Expr) bool) api.Expr {
 	first := r.Peek()
 	e, taken, err := st.One(r.Rest(), r.End())
-	pass(err)
+	words.Pass(err)
 	words.Must(is(e), first.At, api.ErrLine)
 	for range taken {
 		r.Skip()
@@ -131,7 +122,7 @@ func (r *lineReader) call(in *api.IlInstr) {
 	}
 	semicolon := api.Token{Kind: api.TokMark, At: r.End(), End: r.End(), Text: ";"}
 	l, err := st.Body(append(rest, semicolon), r.End())
-	pass(err)
+	words.Pass(err)
 	words.Must(len(l) == 1 && l[0].Op == api.StCall, name.At, api.ErrLine)
 	in.Args, in.Names, in.Outs, in.OutNames = l[0].Exprs, l[0].Names, l[0].Outs, l[0].OutNames
 	for !r.Done() {

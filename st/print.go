@@ -8,48 +8,38 @@ import (
 	"relay/words"
 )
 
-// printer writes trees as a text. It gives up, as readers do, at what has none, and where there are more bytes or words than a text may have: so it ends at trees that lead back into themselves, too.
+// printer writes trees as a text. It gives up where there are more words than a text may have, too.
 type printer struct {
-	text   []byte
+	words.Text
 	around int // statements around
 	exprs  int // so far; each of them has a word of its own
-}
-
-// must gives up, unless a tree is as one with a text is.
-func (p *printer) must(is bool) { words.Must(is, len(p.text), api.ErrArg) }
-
-func (p *printer) put(parts ...string) {
-	for _, s := range parts {
-		p.must(len(p.text)+len(s) <= api.MaxSource)
-		p.text = append(p.text, s...)
-	}
 }
 
 // begin writes a line's blanks and what stands there first.
 func (p *printer) begin(parts ...string) {
 	for range p.around {
-		p.put("  ")
+		p.Put("  ")
 	}
-	p.put(parts...)
+	p.Put(parts...)
 }
 
 // line writes a whole line.
 func (p *printer) line(parts ...string) {
 	p.begin(parts...)
-	p.put("\n")
+	p.Put("\n")
 }
 
 // expr writes an expression where the grammar wants one of a level at least.
 func (p *printer) expr(e api.Expr, least int) {
 	p.exprs++
-	p.must(p.exprs <= api.MaxTokens)
+	p.Must(p.exprs <= api.MaxTokens)
 	if levelOf(e.Op) >= least {
 		p.bare(e)
 		return
 	}
-	p.put("(")
+	p.Put("(")
 	p.bare(e)
-	p.put(")")
+	p.Put(")")
 }
 
 // bare writes an expression without brackets around it.
@@ -58,16 +48,16 @@ func (p *printer) bare(e api.Expr) {
 	case api.ExLit:
 		p.literal(e.Value)
 	case api.ExName:
-		p.put(e.Name)
+		p.Put(e.Name)
 	case api.ExIndex:
-		p.must(len(e.Kids) == 1)
-		p.put(e.Name, "[")
+		p.Must(len(e.Kids) == 1)
+		p.Put(e.Name, "[")
 		p.expr(e.Kids[0], levelOr)
-		p.put("]")
+		p.Put("]")
 	case api.ExField:
-		p.put(e.Name, ".", e.Field)
+		p.Put(e.Name, ".", e.Field)
 	case api.ExCall:
-		p.put(e.Name)
+		p.Put(e.Name)
 		p.arguments(argList{exprs: e.Kids, names: e.Names})
 	default:
 		p.operation(e)
@@ -77,52 +67,52 @@ func (p *printer) bare(e api.Expr) {
 func (p *printer) operation(e api.Expr) {
 	switch {
 	case isRow(e.Op):
-		p.must(len(e.Kids) == 2)
+		p.Must(len(e.Kids) == 2)
 		row := rows[e.Op]
 		p.expr(e.Kids[0], row.level)
-		p.put(" ", row.text, " ")
+		p.Put(" ", row.text, " ")
 		p.expr(e.Kids[1], row.level+1)
 		return
 	case e.Op == api.OpNeg:
-		p.put("-")
+		p.Put("-")
 	case e.Op == api.OpNot:
-		p.put("NOT ")
+		p.Put("NOT ")
 	default:
-		p.must(false)
+		p.Must(false)
 	}
-	p.must(len(e.Kids) == 1)
+	p.Must(len(e.Kids) == 1)
 	p.expr(e.Kids[0], levelUnary)
 }
 
 func (p *printer) literal(v api.Value) {
 	switch {
 	case v.Kind == api.KNone:
-		p.put(strconv.FormatUint(v.Bits, 10))
+		p.Put(strconv.FormatUint(v.Bits, 10))
 	case v.Kind == api.KBool:
-		p.put(value.Print(v))
+		p.Put(value.Print(v))
 	case v.Kind >= api.KSint && v.Kind <= api.KLword:
-		p.put(value.Word(v.Kind), "#", value.Print(v))
+		p.Put(value.Word(v.Kind), "#", value.Print(v))
 	default:
-		p.must(false)
+		p.Must(false)
 	}
 }
 
 func (p *printer) arguments(l argList) {
-	p.must(len(l.exprs) == len(l.names) && len(l.outs) == len(l.outNames))
-	p.put("(")
+	p.Must(len(l.exprs) == len(l.names) && len(l.outs) == len(l.outNames))
+	p.Put("(")
 	between := ""
 	for i, e := range l.exprs {
-		p.put(between)
+		p.Put(between)
 		if l.names[i] != "" {
-			p.put(l.names[i], " := ")
+			p.Put(l.names[i], " := ")
 		}
 		p.expr(e, levelOr)
 		between = ", "
 	}
 	for i, e := range l.outs {
-		p.put(between, l.outNames[i], " => ")
+		p.Put(between, l.outNames[i], " => ")
 		p.expr(e, levelOr)
 		between = ", "
 	}
-	p.put(")")
+	p.Put(")")
 }

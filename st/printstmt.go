@@ -22,14 +22,14 @@ func (p *printer) body(l []api.Stmt) {
 func (p *printer) stmt(s api.Stmt) {
 	switch s.Op {
 	case api.StSet:
-		p.must(len(s.Exprs) == 2)
+		p.Must(len(s.Exprs) == 2)
 		p.begin()
 		p.expr(s.Exprs[0], levelOr)
 		p.end(" := ", s.Exprs[1], ";")
 	case api.StCall:
 		p.begin(s.Name)
 		p.arguments(argList{s.Exprs, s.Names, s.Outs, s.OutNames})
-		p.put(";\n")
+		p.Put(";\n")
 	case api.StIf:
 		p.branches(s)
 	case api.StCase:
@@ -45,20 +45,20 @@ func (p *printer) stmt(s api.Stmt) {
 	case api.StEmpty:
 		p.line(";")
 	default:
-		p.must(false)
+		p.Must(false)
 	}
 }
 
 // end writes the rest of a line: an expression between two texts.
 func (p *printer) end(ahead string, e api.Expr, behind string) {
-	p.put(ahead)
+	p.Put(ahead)
 	p.expr(e, levelOr)
-	p.put(behind, "\n")
+	p.Put(behind, "\n")
 }
 
 // head writes a line with a word, the one expression of a statement, and a word behind it.
 func (p *printer) head(word string, s api.Stmt, behind string) {
-	p.must(len(s.Exprs) == 1)
+	p.Must(len(s.Exprs) == 1)
 	p.begin(word)
 	p.end(" ", s.Exprs[0], behind)
 }
@@ -98,27 +98,27 @@ func (p *printer) labels(l []api.Range) {
 	p.begin()
 	for i, x := range l {
 		if i > 0 {
-			p.put(", ")
+			p.Put(", ")
 		}
-		p.put(strconv.Itoa(x.Lo))
+		p.Put(strconv.Itoa(x.Lo))
 		if x.Hi != x.Lo {
-			p.put("..", strconv.Itoa(x.Hi))
+			p.Put("..", strconv.Itoa(x.Hi))
 		}
 	}
-	p.put(":\n")
+	p.Put(":\n")
 }
 
 func (p *printer) count(s api.Stmt) {
-	p.must(len(s.Exprs) == 2 || len(s.Exprs) == 3)
+	p.Must(len(s.Exprs) == 2 || len(s.Exprs) == 3)
 	p.begin("FOR ", s.Name, " := ")
 	p.expr(s.Exprs[0], levelOr)
-	p.put(" TO ")
+	p.Put(" TO ")
 	p.expr(s.Exprs[1], levelOr)
 	if len(s.Exprs) == 3 {
-		p.put(" BY ")
+		p.Put(" BY ")
 		p.expr(s.Exprs[2], levelOr)
 	}
-	p.put(" DO\n")
+	p.Put(" DO\n")
 	p.body(s.Body)
 	p.line("END_FOR;")
 }

@@ -1,7 +1,11 @@
 // Package words goes through the words of a text, for the layers that read a grammar. What a reader can't go on at it tells by a panic with a fault, which a layer's face catches.
 package words
 
-import "relay/api"
+import (
+	"errors"
+
+	"relay/api"
+)
 
 // Fail gives up with a fault.
 func Fail(at int, why api.Errno) { panic(api.Fault{At: at, Why: why}) }
@@ -10,6 +14,14 @@ func Fail(at int, why api.Errno) { panic(api.Fault{At: at, Why: why}) }
 func Must(is bool, at int, why api.Errno) {
 	if !is {
 		Fail(at, why)
+	}
+}
+
+// Pass gives up with the fault that a layer below has found, if it has found one.
+func Pass(err error) {
+	var fault api.Fault
+	if errors.As(err, &fault) {
+		Fail(fault.At, fault.Why)
 	}
 }
 

@@ -2,6 +2,7 @@ package words_test
 
 import (
 	"errors"
+	"strings"
 	"testing"
 
 	"relay/api"
@@ -64,4 +65,38 @@ func TestCaught(t *testing.T) {
 	}()
 	gaveUp(func() { panic("another") })
 	t.Error("another panic does not go on")
+}
+
+func TestPass(t *testing.T) {
+	want := api.Fault{At: 3, Why: api.ErrDeep}
+	if err := gaveUp(func() { words.Pass(want) }); err != error(want) {
+		t.Error(err)
+	}
+	if err := gaveUp(func() { words.Pass(nil) }); err != nil {
+		t.Error(err)
+	}
+}
+
+func TestText(t *testing.T) {
+	var text words.Text
+	if text.String() != "" {
+		t.Error(text.String())
+	}
+	text.Put()
+	text.Put("a", "", "bc")
+	text.Must(true)
+	if text.String() != "abc" {
+		t.Error(text.String())
+	}
+	if err := gaveUp(func() { text.Must(false) }); err != error(api.Fault{At: 3, Why: api.ErrArg}) {
+		t.Error(err)
+	}
+	rest := strings.Repeat("x", api.MaxSource-3)
+	if err := gaveUp(func() { text.Put(rest + "x") }); !errors.Is(err, api.ErrArg) || text.String() != "abc" {
+		t.Error(err)
+	}
+	text.Put(rest, "")
+	if err := gaveUp(func() { text.Put("x") }); !errors.Is(err, api.ErrArg) || len(text.String()) != api.MaxSource {
+		t.Error(err)
+	}
 }
