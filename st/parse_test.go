@@ -1,7 +1,6 @@
 package st_test
 
 import (
-	"errors"
 	"math/rand"
 	"reflect"
 	"strings"
@@ -78,101 +77,6 @@ func TestExprs(t *testing.T) {
 
 // someWords is words of all sorts.
 var someWords = strings.Fields("a b 5 INT#7 'x' 1.5 TRUE 3000000000 {BOUND_3} {X} %QX0.0 := => <> <= >= .. = < > + - * / ( ) [ ] , ; : . & | ! AND OR XOR NOT MOD IF THEN ELSIF ELSE END_IF CASE OF END_CASE FOR TO BY DO END_FOR WHILE END_WHILE REPEAT UNTIL END_REPEAT EXIT RETURN VAR INT END_VAR")
-
-func someWord(r *rand.Rand) string {
-	return strings.ReplaceAll(someWords[r.Intn(len(someWords))], "_3", " 3")
-}
-
-// broken is a text in which some words are left out, stand twice, or are others.
-func broken(r *rand.Rand, src string) string {
-	l, _ := lex.Scan(src)
-	var texts []string
-	for _, w := range l {
-		texts = append(texts, src[w.At:w.End])
-	}
-	for range 1 + r.Intn(2) {
-		if len(texts) == 0 {
-			break
-		}
-		i := r.Intn(len(texts))
-		switch r.Intn(4) {
-		case 0:
-			texts = append(texts[:i:i], texts[i+1:]...)
-		case 1:
-			texts = append(texts[:i+1:i+1], texts[i:]...)
-		case 2:
-			texts = texts[:i]
-		default:
-			texts[i] = someWord(r)
-		}
-	}
-	return strings.Join(texts, " ")
-}
-
-// P5.1: the first fault and its place are those that the grammar gives, word by word; P5.6: what stands behind it plays no part.
-func TestFaultsByGrammar(t *testing.T) {
-	g := newGrammar()
-	r := rand.New(rand.NewSource(1))
-	count := map[error]int{}
-	for seed := range int64(8000) {
-		src, _ := program(seed%2000, false)
-		if len(src) > 600 {
-			continue
-		}
-		src = broken(r, src)
-		words := scanned(t, src)
-		want := g.fault("stmts", words, len(src))
-		l, err := st.Parse(src)
-		if err != want || err != nil && len(l) != 0 {
-			t.Fatalf("%q: %v %v, wanted %v", src, l, err, want)
-		}
-		var f api.Fault
-		if !errors.As(err, &f) {
-			continue
-		}
-		count[f.Why]++
-		for range 3 {
-			more := ""
-			for range r.Intn(5) {
-				more += " " + someWord(r)
-			}
-			for _, w := range words {
-				if w.At == f.At {
-					if _, err := st.Parse(src[:w.End] + more); err != want {
-						t.Fatalf("%q: %v, wanted %v", src[:w.End]+more, err, want)
-					}
-				}
-			}
-		}
-	}
-	if count[api.ErrToken] < 1000 || count[api.ErrBound] < 50 {
-		t.Error(count)
-	}
-}
-
-// The same of expressions: One's fault is the grammar's, unless the grammar's is at what stands behind the expression.
-func TestExprFaultsByGrammar(t *testing.T) {
-	g := newGrammar()
-	r := rand.New(rand.NewSource(2))
-	for seed := range int64(8000) {
-		m := newMaker(seed, false)
-		m.expr(int(seed % 4))
-		src := broken(r, m.b.String())
-		words := scanned(t, src)
-		want := g.fault("expr", words, len(src))
-		e, err := st.Expr(src)
-		if err != want || err != nil && !reflect.DeepEqual(e, api.Expr{}) {
-			t.Fatalf("%q: %v %v, wanted %v", src, e, err, want)
-		}
-		one, taken, err := st.One(words, len(src))
-		switch {
-		case err != nil && (err != want || taken != 0 || !reflect.DeepEqual(one, api.Expr{})):
-			t.Fatalf("%q: %v %d %v", src, one, taken, err)
-		case err == nil && want != nil && words[taken].At != want.(api.Fault).At:
-			t.Fatalf("%q: %d, wanted %v", src, taken, want)
-		}
-	}
-}
 
 // P5.5: case and blanks play no part.
 func TestCaseAndBlanks(t *testing.T) {
