@@ -53,6 +53,7 @@ func (p *printer) transition(t api.Trans) {
 	p.Put(" TO ")
 	p.side(t.To)
 	cond := st.PrintExpr(t.Cond)
+	// To find out that there is no text may take long: once is enough.
 	p.Must(cond != "")
 	p.Put(" := ", cond, ";\nEND_TRANSITION\n")
 }
@@ -74,7 +75,7 @@ func (p *printer) side(l []string) {
 
 func (p *printer) action(a api.Action) {
 	body := st.Print(a.Body)
-	// Statements have a byte at least, or no text.
+	// Of none the text is empty, too.
 	p.Must(body != "" || len(a.Body) == 0)
 	p.Put("ACTION ", a.Name, ":\n")
 	for line := range strings.Lines(body) {
