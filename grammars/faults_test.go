@@ -140,8 +140,8 @@ func (f faulty) hold(t *testing.T, g *grammar, texts int) map[api.Errno]int {
 			for range r.Intn(5) {
 				more += " " + someWord(r)
 			}
-			// The words up to that one are the same: so the fault is, unless it hangs on an END_ACTION further on.
-			if want := f.fault(scanned(t, more), len(more)); want != error(fault) && !strings.Contains(src, "ACTION") {
+			// The words up to that one are the same: so the fault is.
+			if want := f.fault(scanned(t, more), len(more)); want != error(fault) {
 				t.Fatalf("%q: %v, and %q: %v", src, fault, more, want)
 			} else if _, err := f.read(more); err != want {
 				t.Fatalf("%q: %v, wanted %v", more, err, want)
@@ -296,15 +296,7 @@ func chartFault(loose, strict *grammar, l []api.Token, end int) error {
 	}
 	var n names
 	var ahead api.Token
-	for i, w := range l[:stands] {
-		isEnd := func(w api.Token) bool { return w.Text == "END_ACTION" }
-		if i >= 2 && w.Text == ":" && l[i-2].Text == "ACTION" && !slices.ContainsFunc(l[i:], isEnd) {
-			// Of the words behind it nothing is read then.
-			if err != nil && err.(api.Fault).At < w.At {
-				return err
-			}
-			return api.Fault{At: end, Why: api.ErrToken}
-		}
+	for _, w := range l[:stands] {
 		if f := n.fault(ahead, w); f != nil {
 			return earlier(err, f)
 		}

@@ -137,10 +137,13 @@ func TestTokenFaults(t *testing.T) {
 	)
 }
 
-// P8.1: actions without an END_ACTION: whatever stands there, it is missing at the end.
+// P8.1: actions without an END_ACTION: it is missing at the end, and what is wrong ahead of that is told first.
 func TestOpenActions(t *testing.T) {
-	faults(t, api.ErrToken, "ACTION x:¦", "ACTION x: ¦", "ACTION x: n := 1;¦", "ACTION x: n := ; STEP¦", "ACTION x: WHILE a DO¦", "ACTION x: (* END_ACTION *)¦", "ACTION x: END_ACTIONS;¦", "ACTION x: ; ACTION y: ;¦", "ACTION x: STEP a: END_STEP ¦", "ACTION x: "+strings.Repeat("-", 40)+"¦", "ACTION x: ; END_ACTION ACTION y: END_STEP¦")
+	faults(t, api.ErrToken, "ACTION x:¦", "ACTION x: ¦", "ACTION x: n := 1;¦", "ACTION x: n := 1 ¦", "ACTION x: n¦", "ACTION x: IF a THEN b := 1;¦", "ACTION x: {BOUND 3} WHILE a DO¦", "ACTION x: {BOUND 3}¦", "ACTION x: (* END_ACTION *)¦", "ACTION x: ; END_ACTION ACTION y: ;¦", "ACTION x: t(¦")
 	faults(t, api.ErrToken, "ACTION x ¦;", "ACTION ¦: ;", "STEP ¦ACTION x: ;", "TRANSITION ¦ACTION x:")
+	faults(t, api.ErrToken, "ACTION x:¦ON", "ACTION x: ¦5;", "ACTION x: n := ¦; STEP", "ACTION x: n := 1; ¦STEP", "ACTION x: END_ACTIONS¦;", "ACTION x: ; ¦ACTION y: ;", "ACTION x: ¦STEP a: END_STEP ", "ACTION x: ¦"+strings.Repeat("-", 40), "ACTION x: ; END_ACTION ACTION y: ¦END_STEP", "INITIAL_STEP b:y(D,T#1s);q(P);END_STEP\nACTION y:¦ON", "ACTION x: IF a THEN ; ¦END_CASE", "ACTION x: {BOUND 3} ¦n := 1;", "ACTION x: ; ¦TRANSITION FROM a TO a := b; END_TRANSITION")
+	faults(t, api.ErrBound, "ACTION x: ¦WHILE a DO", "ACTION x: ¦WHILE a DO END_WHILE;", "ACTION x: ; ¦{x}", "ACTION x: n := 1; ¦{BOUND 0} REPEAT ON")
+	faults(t, api.ErrDeep, "ACTION x: n := "+strings.Repeat("-", api.MaxDeep)+"¦-ON", "ACTION x: "+strings.Repeat("IF a THEN ", api.MaxDeep)+"¦IF")
 }
 
 // P8.1: st's faults, at their places.

@@ -132,16 +132,20 @@ func (r *reader) action() api.Action {
 	return api.Action{At: name.At, Name: name.Text, Body: r.body()}
 }
 
-// body is the statements up to the first END_ACTION; without one nothing is read of them.
+// body is the statements up to the first END_ACTION. Also where there is none they are read: a fault of theirs stands further left than the end, where it is missing.
 func (r *reader) body() []api.Stmt {
-	rest := r.Rest()
-	count := slices.IndexFunc(rest, func(t api.Token) bool { return words.Is(t, "END_ACTION") })
-	words.Must(count >= 0, r.End(), api.ErrToken)
-	l, err := st.Body(rest[:count], rest[count].At)
+	rest, end := r.Rest(), r.End()
+	if count := slices.IndexFunc(rest, isActionEnd); count >= 0 {
+		rest, end = rest[:count], rest[count].At
+	}
+	l, err := st.Body(rest, end)
 	words.Pass(err)
-	r.skip(count + 1)
+	r.skip(len(rest))
+	r.Want("END_ACTION")
 	return l
 }
+
+func isActionEnd(t api.Token) bool { return words.Is(t, "END_ACTION") }
 
 func (r *reader) skip(count int) {
 	for range count {
