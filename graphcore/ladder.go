@@ -85,7 +85,7 @@ func item(e api.Element) api.Expr {
 	if !is {
 		return trees.Name(e.At, name)
 	}
-	return api.Expr{Op: api.ExField, At: e.At, Name: name, Field: field}
+	return trees.Field(e.At, name, field)
 }
 
 // row is parts joined by an operation, from the left on; of none TRUE.

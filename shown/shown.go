@@ -44,7 +44,7 @@ func (w writer) stmt(s api.Stmt) string {
 	case s.Op == api.StSet && len(s.Exprs) == 2:
 		return w.expr(s.Exprs[0]) + " := " + w.expr(s.Exprs[1]) + ";"
 	case s.Op == api.StIf && len(s.Exprs) == 1:
-		return "IF " + w.expr(s.Exprs[0]) + " THEN " + w.stmts(s.Body) + " END_IF;"
+		return "IF " + w.expr(s.Exprs[0]) + " THEN " + w.stmts(s.Body) + w.others(s.Else) + " END_IF;"
 	case s.Op == api.StCall:
 		return s.Name + "(" + w.args(s.Names, s.Exprs, " := ") + "|" + w.args(s.OutNames, s.Outs, " => ") + ");"
 	case s.Op == api.StLabel && len(s.Exprs) == 0:
@@ -55,17 +55,58 @@ func (w writer) stmt(s api.Stmt) string {
 		return "JMP " + s.Name + " IF " + w.expr(s.Exprs[0]) + ";"
 	case s.Op == api.StReturn && len(s.Exprs) == 0:
 		return "RETURN;"
+	case s.Op == api.StExit && len(s.Exprs) == 0:
+		return "EXIT;"
+	case s.Op == api.StEmpty && len(s.Exprs) == 0:
+		return ";"
+	}
+	return w.choice(s)
+}
+
+// choice is the text of a statement that goes by numbers or in rounds, or of one that is none.
+func (w writer) choice(s api.Stmt) string {
+	bound := "{" + strconv.Itoa(s.Num) + "} "
+	switch {
+	case s.Op == api.StCase && len(s.Exprs) == 1:
+		return "CASE " + w.expr(s.Exprs[0]) + " OF " + w.stmts(s.Body) + w.others(s.Else) + " END_CASE;"
+	case s.Op == api.StArm && len(s.Exprs) == 0:
+		return ranges(s.Ranges) + ": " + w.stmts(s.Body)
+	case s.Op == api.StFor:
+		return "FOR " + s.Name + " := " + w.args(make([]string, len(s.Exprs)), s.Exprs, "") + " DO " + w.stmts(s.Body) + " END_FOR;"
+	case s.Op == api.StWhile && len(s.Exprs) == 1:
+		return bound + "WHILE " + w.expr(s.Exprs[0]) + " DO " + w.stmts(s.Body) + " END_WHILE;"
+	case s.Op == api.StRepeat && len(s.Exprs) == 1:
+		return bound + "REPEAT " + w.stmts(s.Body) + " UNTIL " + w.expr(s.Exprs[0]) + " END_REPEAT;"
 	}
 	return "?" + strconv.Itoa(s.Op) + "(" + w.args(nil, s.Exprs, "") + ");"
+}
+
+// others is what is done else, if there is something.
+func (w writer) others(l []api.Stmt) string {
+	if len(l) == 0 {
+		return ""
+	}
+	return " ELSE " + w.stmts(l)
+}
+
+func ranges(l []api.Range) string {
+	texts := make([]string, len(l))
+	for i, r := range l {
+		texts[i] = strconv.Itoa(r.Lo) + ".." + strconv.Itoa(r.Hi)
+	}
+	return strings.Join(texts, ", ")
 }
 
 // oddStmt tells the fields that a statement of its Op does not have.
 func oddStmt(s api.Stmt) string {
 	call := s.Op == api.StCall
-	named := call || s.Op == api.StLabel || s.Op == api.StJump
-	return odd("Name", s.Name != "" && !named) + odd("Num", s.Num != 0) + odd("Names", len(s.Names) > 0 && !call) +
-		odd("Outs", len(s.Outs)+len(s.OutNames) > 0 && !call) + odd("Ranges", len(s.Ranges) > 0) +
-		odd("Body", len(s.Body) > 0 && s.Op != api.StIf) + odd("Else", len(s.Else) > 0) +
+	named := call || s.Op == api.StLabel || s.Op == api.StJump || s.Op == api.StFor
+	bounded := s.Op == api.StWhile || s.Op == api.StRepeat
+	parted := s.Op == api.StIf || s.Op == api.StCase
+	around := parted || bounded || s.Op == api.StArm || s.Op == api.StFor
+	return odd("Name", s.Name != "" && !named) + odd("Num", s.Num != 0 && !bounded) + odd("Names", len(s.Names) > 0 && !call) +
+		odd("Outs", len(s.Outs)+len(s.OutNames) > 0 && !call) + odd("Ranges", len(s.Ranges) > 0 && s.Op != api.StArm) +
+		odd("Body", len(s.Body) > 0 && !around) + odd("Else", len(s.Else) > 0 && !parted) +
 		odd("Kind", s.Kind != 0) + odd("Area", s.Area != 0) + odd("Ref", s.Ref != 0)
 }
 

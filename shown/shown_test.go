@@ -14,7 +14,11 @@ func TestStmts(t *testing.T) {
 		"a := b + 1;": "A := (B + 1);",
 		"a[-i] := not b.c = f(1, x := INT#2, 'x');":                 "A[(-I)] := ((NOT B.C) = F(1, X := INT#2'', STRING#0'x'));",
 		"if a then t(b, in := TRUE, q => FALSE_1); RETURN; end_if;": "IF A THEN T(B, IN := TRUE|Q => FALSE_1); RETURN; END_IF;",
-		"exit;": "?8();",
+		"exit;;return;": "EXIT; ; RETURN;",
+		"if a then b := 1; elsif c then ; else exit; end_if;":                      "IF A THEN B := 1; ELSE IF C THEN ; ELSE EXIT; END_IF; END_IF;",
+		"case a of 1, -3..5: b := 1; 7: ; else exit; end_case;":                    "CASE A OF 1..1, -3..5: B := 1; 7..7: ; ELSE EXIT; END_CASE;",
+		"for i := 1 to n do ; end_for; for i := 1 to n by -1 do exit; end_for;":    "FOR I := 1, N DO ; END_FOR; FOR I := 1, N, (-1) DO EXIT; END_FOR;",
+		"{bound 5} while a do ; end_while; {bound 6} repeat ; until b end_repeat;": "{5} WHILE A DO ; END_WHILE; {6} REPEAT ; UNTIL B END_REPEAT;",
 	} {
 		l, err := st.Parse(src)
 		if got := shown.Stmts(l); err != nil || got != want {
@@ -53,7 +57,10 @@ func TestOdd(t *testing.T) {
 	for want, s := range map[string]api.Stmt{
 		"A := A;!Name!Num!Kind!Area!Ref":      {Op: api.StSet, Exprs: []api.Expr{a, a}, Name: "A", Num: 1, Kind: 1, Area: 1, Ref: 1},
 		"RETURN;!Names!Outs!Ranges!Body!Else": {Op: api.StReturn, Names: []string{""}, OutNames: []string{""}, Ranges: []api.Range{{}}, Body: make([]api.Stmt, 1), Else: make([]api.Stmt, 1)},
-		"IF A THEN  END_IF;!Else":             {Op: api.StIf, Exprs: []api.Expr{a}, Else: make([]api.Stmt, 1)},
+		"IF A THEN  ELSE ?0(); END_IF;!Num":   {Op: api.StIf, Exprs: []api.Expr{a}, Else: make([]api.Stmt, 1), Num: 3},
+		"{3} WHILE A DO  END_WHILE;!Else":     {Op: api.StWhile, Exprs: []api.Expr{a}, Else: make([]api.Stmt, 1), Num: 3},
+		"EXIT;!Body":                          {Op: api.StExit, Body: make([]api.Stmt, 1)},
+		"FOR I :=  DO  END_FOR;!Num!Ranges":   {Op: api.StFor, Name: "I", Num: 3, Ranges: []api.Range{{}}},
 		"?9(?A);":                             {Op: api.StReturn, Exprs: []api.Expr{a}},
 	} {
 		if got := shown.Stmts([]api.Stmt{s}); got != want {

@@ -11,6 +11,11 @@ import (
 // Name is a variable's name.
 func Name(at int, name string) api.Expr { return api.Expr{Op: api.ExName, At: at, Name: name} }
 
+// Field is a variable of an instance.
+func Field(at int, name, field string) api.Expr {
+	return api.Expr{Op: api.ExField, At: at, Name: name, Field: field}
+}
+
 // Truth is the literal TRUE or FALSE.
 func Truth(at int, is bool) api.Expr {
 	return api.Expr{Op: api.ExLit, At: at, Value: value.Bool(is)}
@@ -48,6 +53,19 @@ func AllChanged(l []api.Expr, change func(api.Expr) api.Expr) []api.Expr {
 	var out []api.Expr
 	for _, e := range l {
 		out = append(out, Changed(e, change))
+	}
+	return out
+}
+
+// StmtsChanged is statements in new memory, each expression in them changed.
+func StmtsChanged(l []api.Stmt, change func(api.Expr) api.Expr) []api.Stmt {
+	var out []api.Stmt
+	for _, s := range l {
+		s.Exprs, s.Outs = AllChanged(s.Exprs, change), AllChanged(s.Outs, change)
+		s.Names, s.OutNames = slices.Clone(s.Names), slices.Clone(s.OutNames)
+		s.Ranges = slices.Clone(s.Ranges)
+		s.Body, s.Else = StmtsChanged(s.Body, change), StmtsChanged(s.Else, change)
+		out = append(out, s)
 	}
 	return out
 }

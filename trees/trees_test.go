@@ -50,6 +50,32 @@ func TestCopy(t *testing.T) {
 	}
 }
 
+// Statements are copied with all that they have; each expression in them is changed, formal names are not.
+func TestStmtsChanged(t *testing.T) {
+	a := []api.Expr{trees.Field(2, "A", "X")}
+	inner := []api.Stmt{{Op: api.StReturn, At: 8}}
+	s := api.Stmt{Op: 1, At: 2, Name: "A", Num: 3, Exprs: a, Names: []string{"A"}, Outs: a, OutNames: []string{"A"}, Ranges: []api.Range{{Lo: 4, Hi: 5}}, Body: inner, Else: inner, Kind: 5, Area: 6, Ref: 7}
+	l := []api.Stmt{s, {Op: api.StIf, Body: []api.Stmt{s}, Else: []api.Stmt{s}}}
+	same := func(e api.Expr) api.Expr { return e }
+	if c := trees.StmtsChanged(l, same); !reflect.DeepEqual(c, l) {
+		t.Error(c)
+	}
+	rename := func(e api.Expr) api.Expr {
+		e.Name = "Z"
+		return e
+	}
+	c := trees.StmtsChanged(l, rename)
+	for _, x := range []api.Stmt{c[0], c[1].Body[0], c[1].Else[0]} {
+		if x.Exprs[0].Name != "Z" || x.Outs[0].Name != "Z" || x.Names[0] != "A" || x.OutNames[0] != "A" || x.Name != "A" {
+			t.Error(x)
+		}
+		x.Names[0], x.OutNames[0], x.Ranges[0].Lo, x.Body[0].At, x.Else[0].At = "Y", "Y", 9, 9, 9
+	}
+	if a[0].Name != "A" || s.Names[0] != "A" || s.OutNames[0] != "A" || s.Ranges[0].Lo != 4 || inner[0].At != 8 || len(trees.StmtsChanged(nil, same)) != 0 {
+		t.Error(l)
+	}
+}
+
 // Each counter counts by itself; variables stand in the order in which they came.
 func TestHidden(t *testing.T) {
 	var h trees.Hidden
