@@ -6,6 +6,7 @@ import (
 	"strings"
 	"testing"
 
+	"relay/api"
 	"relay/decl"
 	"relay/layout"
 	"relay/samples"
@@ -38,5 +39,57 @@ func TestSources(t *testing.T) {
 		if !strings.Contains(all, word) {
 			t.Error(word)
 		}
+	}
+}
+
+// Jumps lead to labels further on in their lists, which stand there once.
+func TestWithJumps(t *testing.T) {
+	jumps, conditional := 0, 0
+	var look func(l []api.Stmt)
+	look = func(l []api.Stmt) {
+		for i, s := range l {
+			ahead, behind := 0, 0
+			for k, x := range l {
+				if x.Op == api.StLabel && x.Name == s.Name {
+					if k > i {
+						behind++
+					} else {
+						ahead++
+					}
+				}
+			}
+			switch s.Op {
+			case api.StJump:
+				jumps++
+				conditional += len(s.Exprs)
+				if ahead != 0 || behind != 1 {
+					t.Fatal(s.Name)
+				}
+			case api.StLabel:
+				if ahead != 1 || behind != 0 {
+					t.Fatal(s.Name)
+				}
+			}
+			look(s.Body)
+			look(s.Else)
+		}
+	}
+	for seed := range int64(100) {
+		r := rand.New(rand.NewSource(seed))
+		p, _, err := decl.Parse(samples.Sources(r.Intn))
+		if err != nil {
+			t.Fatal(err)
+		}
+		for _, u := range p.Pous {
+			l, _ := st.Parse(u.Text)
+			before := st.Print(l)
+			look(samples.WithJumps(r.Intn, l))
+			if st.Print(l) != before {
+				t.Fatal("changed")
+			}
+		}
+	}
+	if jumps < 1000 || conditional < 500 || conditional > jumps-100 {
+		t.Error(jumps, conditional)
 	}
 }
