@@ -39,7 +39,7 @@ func each(t *testing.T, n int, jumps bool, to func(m made)) {
 func TestModel(t *testing.T) {
 	counts := map[int]int{}
 	for _, jumps := range []bool{false, true} {
-		each(t, 500, jumps, func(m made) {
+		each(t, 300, jumps, func(m made) {
 			for _, c := range m.codes {
 				f, want := flat(t, c), modelBuild(c)
 				if !reflect.DeepEqual(f, want) {
@@ -52,7 +52,7 @@ func TestModel(t *testing.T) {
 		})
 	}
 	for code := api.IrConst; code <= api.IrReturn; code++ {
-		if counts[code] < 50 {
+		if counts[code] < 20 {
 			t.Error(code, counts)
 		}
 	}
@@ -147,7 +147,7 @@ func ends(f api.Flat) error {
 func TestSetAheadAndEnds(t *testing.T) {
 	loops := 0
 	for _, jumps := range []bool{false, true} {
-		each(t, 300, jumps, func(m made) {
+		each(t, 150, jumps, func(m made) {
 			for _, c := range m.codes {
 				f := flat(t, c)
 				if err := setAhead(f); err != nil {
@@ -160,7 +160,7 @@ func TestSetAheadAndEnds(t *testing.T) {
 			}
 		})
 	}
-	if loops < 500 {
+	if loops < 300 {
 		t.Error(loops)
 	}
 }
@@ -316,7 +316,7 @@ func shake(r *rand.Rand, v reflect.Value) {
 
 // Whatever a code is, the call ends, with IrReturn behind it all.
 func TestByHand(t *testing.T) {
-	each(t, 500, true, func(m made) {
+	each(t, 300, true, func(m made) {
 		for _, c := range m.codes {
 			c = deepCopy(reflect.ValueOf(c)).Interface().(api.Code)
 			for range 1 + m.r.Intn(5) {

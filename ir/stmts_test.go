@@ -166,6 +166,11 @@ func TestLabelsAndJumps(t *testing.T) {
 		}, "jump B6; load B1 C3; unless B6; jump B6; const A1 INT#1; store A1 B1 C1; " +
 			"const A2 LINT#0; load A3 B1 C3; unless A3 B22; const A4 LINT#2; do A5 B2 C4 lt; unless A5 B21; const A6 LINT#1; do A7 B2 C6 add; move A2 B7; " +
 			"load A8 B1 C3; turn A9 B8 not; unless A9 B20; const A10 INT#2; store A10 B1 C1; jump B7; fault A6; return; loop 7 22 2"},
+		{"{BOUND 2} REPEAT i := 1; UNTIL b END_REPEAT;", func(l []api.Stmt) []api.Stmt {
+			l[0].Body = []api.Stmt{jump("X"), l[0].Body[0], jump("X", b), {Op: api.StReturn}, label("X")}
+			return l
+		}, "const LINT#0; const A1 LINT#2; do A2 C1 lt; unless A2 B17; const A3 LINT#1; do A4 C3 add; move B4; " +
+			"jump B14; const A5 INT#1; store A5 B1 C1; load A6 B1 C3; turn A7 B6 not; unless A7 B14; return; load A8 B1 C3; unless A8 B1; jump B18; fault A6; return; loop 1 18 2"},
 		// Over a call of an instance, which becomes several statements
 		{"k(IN := b);", func(l []api.Stmt) []api.Stmt { return []api.Stmt{jump("X"), l[0], label("X")} }, "jump B4; load B1 C3; store B1 C11; block B9 C1 D11; return"},
 	} {
