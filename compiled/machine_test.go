@@ -49,13 +49,14 @@ type invocation struct {
 	m    *machine
 	base int
 	regs map[int]api.Value
+	slot map[int]api.Value
 	args []api.Value
 }
 
 func (m *machine) invoke(fn, base int) {
 	must(m.deep < api.MaxCalls, api.FaultSteps)
 	m.deep++
-	i := &invocation{m: m, base: base, regs: map[int]api.Value{}}
+	i := &invocation{m: m, base: base, regs: map[int]api.Value{}, slot: map[int]api.Value{}}
 	for at := 0; ; {
 		must(m.steps < mostSteps, api.FaultSteps)
 		o := m.codes[fn].Ops[at]
@@ -161,6 +162,12 @@ func (i *invocation) step(o api.Op, at int) int {
 		copy(i.m.mem[first:], after)
 	case api.IrFault:
 		panic(stopped(o.A))
+	case api.IrSpill:
+		i.slot[o.B] = i.reg(o.A)
+	case api.IrFill:
+		v, is := i.slot[o.B]
+		i.m.unset = i.m.unset || !is
+		i.regs[o.A] = v
 	default:
 		panic(stopped(api.FaultKind))
 	}

@@ -5,6 +5,7 @@ import (
 	"math/rand"
 	"testing"
 
+	"relay/alloc"
 	"relay/api"
 	"relay/core"
 	"relay/decl"
@@ -57,6 +58,20 @@ func each(t *testing.T, n int, to func(x *plant)) {
 		}
 		to(x)
 	}
+}
+
+// few is codes over so many registers.
+func few(t *testing.T, codes []api.Flat, regs int) []api.Flat {
+	t.Helper()
+	var l []api.Flat
+	for _, f := range codes {
+		g, why := alloc.Alloc(f, regs)
+		if why != api.OK {
+			t.Fatal(f.Name, regs, why)
+		}
+		l = append(l, g)
+	}
+	return l
 }
 
 // compile takes in sources, whose bodies are all in ST, as change makes them.
