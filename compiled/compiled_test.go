@@ -5,12 +5,8 @@ import (
 	"testing"
 
 	"relay/api"
-	"relay/listing"
-	"relay/meaning"
-	"relay/opt"
+	"relay/bound"
 )
-
-const unbounded = 1 << 40
 
 // mixed is codes of which one is in its shorter form.
 func mixed(x *plant, one int) []api.Flat {
@@ -19,38 +15,36 @@ func mixed(x *plant, one int) []api.Flat {
 	return l
 }
 
-// A run of instructions comes to the cells and the fault that the trees mean; P18.5: so does one with a code, or all, made shorter, and in no more steps. None takes more steps than its bound, and none reads a register that is not set.
+// P21.6, P22.5: a run of instructions comes to the cells and the fault that the trees mean, within its bounds. P18.5: so does one with a code, or all, made shorter, and in no more steps.
 func TestAsItMeans(t *testing.T) {
-	faults, fewer := map[int]int{}, 0
+	faults, fewer, deepest := map[int]int{}, 0, 0
 	each(t, 1000, func(x *plant) {
 		for _, i := range x.l {
 			mem, now := x.mem, 0
 			for range 3 {
-				want, _, fault := meaning.Run(x.codes, i.pou, i.base, now, x.cells, mem, unbounded)
-				before := -1
-				for _, codes := range [][]api.Flat{x.flats, mixed(x, x.r.Intn(len(x.flats))), x.short} {
-					after, steps, f, unset := run(codes, i.pou, i.base, now, x.cells, mem)
-					if f != fault || !slices.Equal(after, want) || unset || steps > most(codes, i.pou) {
-						t.Fatal(x.p.Pous[i.pou].Text, listing.Text(codes[i.pou]), f, "not", fault, unset, steps, most(codes, i.pou))
+				m := x.moment(i, now, mem)
+				before := x.steps(t, x.flats, m)
+				for _, codes := range [][]api.Flat{mixed(x, x.r.Intn(len(x.flats))), x.short} {
+					steps := x.steps(t, codes, m)
+					if steps > before {
+						t.Fatal(x.p.Pous[i.pou].Text, steps, "not", before)
 					}
-					if before >= 0 && steps > before {
-						t.Fatal(x.p.Pous[i.pou].Text, listing.Text(codes[i.pou]), steps, "not", before)
-					}
-					if before >= 0 && steps < before {
+					if steps < before {
 						fewer++
 					}
 					before = steps
 				}
-				faults[fault]++
-				if fault != 0 {
+				faults[m.fault]++
+				if m.fault != 0 {
 					break
 				}
-				mem, now = want, now+x.r.Intn(1e9)
+				mem, now = m.after, now+x.r.Intn(1e9)
 			}
 		}
+		deepest += x.deepest
 	})
-	if fewer < 500 {
-		t.Error(fewer)
+	if fewer < 500 || deepest < 500 {
+		t.Error(fewer, deepest)
 	}
 	for f := api.FaultNone; f <= api.FaultConvert; f++ {
 		if faults[f] < 5 {
@@ -59,12 +53,22 @@ func TestAsItMeans(t *testing.T) {
 	}
 }
 
+// most is the bound of a code.
+func most(t *testing.T, codes []api.Flat, fn int) int {
+	t.Helper()
+	n, at, why := bound.Of(codes, fn)
+	if why != api.OK {
+		t.Fatal(fn, at, why)
+	}
+	return n
+}
+
 // P18.6: the bound of a code is no more behind than ahead.
 func TestNoMoreAtMost(t *testing.T) {
 	fewer := 0
 	each(t, 500, func(x *plant) {
 		for fn := range x.flats {
-			ahead, behind, all := most(x.flats, fn), most(mixed(x, fn), fn), most(x.short, fn)
+			ahead, behind, all := most(t, x.flats, fn), most(t, mixed(x, fn), fn), most(t, x.short, fn)
 			if behind > ahead || all > behind {
 				t.Fatal(x.p.Pous[fn].Text, ahead, behind, all)
 			}
@@ -75,17 +79,5 @@ func TestNoMoreAtMost(t *testing.T) {
 	})
 	if fewer < 500 {
 		t.Error(fewer)
-	}
-}
-
-// The bound's examples of chapter 22.
-func TestBoundOfExamples(t *testing.T) {
-	x := &plant{}
-	x.compile(t, []string{"PROGRAM p VAR i, n : INT; END_VAR FOR i := 1 TO 3 DO n := n + 1; END_FOR; END_PROGRAM PROGRAM q VAR a : INT; END_VAR a := a + 1; END_PROGRAM"}, func(l []api.Stmt) []api.Stmt { return l })
-	if most(x.flats, 0) != 70 || most(x.flats, 1) != 5 {
-		t.Error(most(x.flats, 0), most(x.flats, 1))
-	}
-	if f, why := opt.Flat(x.flats[1]); why != api.OK || len(f.Ops) != 5 {
-		t.Error(f, why)
 	}
 }

@@ -6,13 +6,12 @@ import (
 	"testing"
 
 	"relay/api"
+	"relay/bound"
 	"relay/image"
 	"relay/layout"
-	"relay/listing"
-	"relay/meaning"
 )
 
-// P19.4: over few registers a run comes to the same cells and the same fault; so it does where only one code is turned so. It takes no more steps than its bound, and reads no register and no slot that is not set.
+// P19.4: over few registers a run comes to the same cells and the same fault; so it does where only one code is turned so.
 func TestFewRegisters(t *testing.T) {
 	faults, waits := map[int]int{}, 0
 	each(t, 500, func(x *plant) {
@@ -27,14 +26,11 @@ func TestFewRegisters(t *testing.T) {
 			}
 		}
 		for _, i := range x.l {
-			want, _, fault := meaning.Run(x.codes, i.pou, i.base, 0, x.cells, x.mem, unbounded)
+			m := x.moment(i, 0, x.mem)
 			for _, codes := range [][]api.Flat{whole, part, few(t, x.short, regs)} {
-				after, steps, f, unset := run(codes, i.pou, i.base, 0, x.cells, x.mem)
-				if f != fault || !slices.Equal(after, want) || unset || steps > most(codes, i.pou) {
-					t.Fatal(x.p.Pous[i.pou].Text, listing.Text(codes[i.pou]), f, "not", fault, unset, steps, most(codes, i.pou))
-				}
+				x.steps(t, codes, m)
 			}
-			faults[fault]++
+			faults[m.fault]++
 		}
 	})
 	if waits < 500 {
@@ -58,11 +54,15 @@ func imageOf(t *testing.T, x *plant) api.Image {
 			base, _ := layout.Run(x.p, i)
 			if r.Task == task.Name {
 				j.Codes, j.Bases = append(j.Codes, pou), append(j.Bases, base)
-				j.Bound = min(j.Bound+most(m.Codes, pou), api.MaxBound)
 			}
 		}
 		m.Jobs = append(m.Jobs, j)
 	}
+	jobs, _, why := bound.Jobs(m)
+	if why != api.OK {
+		t.Fatal(why)
+	}
+	m.Jobs = jobs
 	return m
 }
 

@@ -30,33 +30,44 @@ type plant struct {
 	cells []api.Cell
 	mem   []api.Value
 	l     []instance
+	// How many of its runs went as deep as they may.
+	deepest int
 }
+
+// newPlant is the plant of sources whose bodies are all in ST, as change makes them.
+func newPlant(t *testing.T, r *rand.Rand, sources []string, change func(l []api.Stmt) []api.Stmt) *plant {
+	t.Helper()
+	x := &plant{r: r}
+	x.compile(t, sources, change)
+	for _, c := range x.cells {
+		x.mem = append(x.mem, x.some(c))
+	}
+	for i := range x.p.Pous {
+		if base, is := layout.Base(x.p, i); is {
+			x.add(i, base)
+		}
+	}
+	for i, run := range x.p.Runs {
+		pou, _ := layout.Pou(x.p, run.Pou)
+		base, _ := layout.Run(x.p, i)
+		x.add(pou, base)
+	}
+	return x
+}
+
+// asIs leaves a body as it is.
+func asIs(l []api.Stmt) []api.Stmt { return l }
 
 // each hands on n plants by chance, every other one with labels and jumps among its statements.
 func each(t *testing.T, n int, to func(x *plant)) {
 	t.Helper()
 	for seed := range n {
 		r := rand.New(rand.NewSource(int64(seed)))
-		x := &plant{r: r}
-		change := func(l []api.Stmt) []api.Stmt { return l }
+		change := asIs
 		if seed%2 > 0 {
 			change = func(l []api.Stmt) []api.Stmt { return samples.WithJumps(r.Intn, l) }
 		}
-		x.compile(t, samples.Sources(r.Intn), change)
-		for _, c := range x.cells {
-			x.mem = append(x.mem, x.some(c))
-		}
-		for i := range x.p.Pous {
-			if base, is := layout.Base(x.p, i); is {
-				x.add(i, base)
-			}
-		}
-		for i, run := range x.p.Runs {
-			pou, _ := layout.Pou(x.p, run.Pou)
-			base, _ := layout.Run(x.p, i)
-			x.add(pou, base)
-		}
-		to(x)
+		to(newPlant(t, r, samples.Sources(r.Intn), change))
 	}
 }
 
@@ -74,7 +85,7 @@ func few(t *testing.T, codes []api.Flat, regs int) []api.Flat {
 	return l
 }
 
-// compile takes in sources, whose bodies are all in ST, as change makes them.
+// compile takes in sources.
 func (x *plant) compile(t *testing.T, sources []string, change func(l []api.Stmt) []api.Stmt) {
 	t.Helper()
 	p, _, err := decl.Parse(sources)
