@@ -19,7 +19,7 @@ const (
 	module    = "relay/"
 	mostLines = 60
 	// By their names: other folders may be laid beside them.
-	packages  = "api value times lex words trees shown samples listing decl st il graph sfc stdlib blocks graphcore ilcore sfccore layout core meaning ir opt alloc image vm bound sched plc desk watch"
+	packages  = "api value times lex words trees shown samples listing decl st il graph sfc stdlib blocks graphcore ilcore sfccore layout core meaning ir opt alloc image vm bound tasks sched plc desk watch"
 	mayImport = " bytes cmp container/heap errors iter maps math math/bits slices sort strconv strings sync sync/atomic unicode unicode/utf8 "
 )
 

@@ -11,11 +11,13 @@ import (
 // Pick is a number from 0 to n - 1, by chance; n is above 0.
 type Pick func(n int) int
 
+// types is the types that all projects have.
+const types = "TYPE level : INT (-5..100); high : USINT (3..9); color : (red, green, blue); short : STRING[4]; wide : ULINT (0..1000); END_TYPE\n"
+
 // Sources is the sources of a project: types, functions, function blocks, programs, and a configuration that runs them.
 func Sources(pick Pick) []string {
 	w := &writer{pick: pick}
 	w.globals = w.declared("G", 4+pick(6), mayBeArray)
-	types := "TYPE level : INT (-5..100); high : USINT (3..9); color : (red, green, blue); short : STRING[4]; wide : ULINT (0..1000); END_TYPE\n"
 	text := ""
 	for i := range 1 + pick(3) {
 		text += w.function("F" + strconv.Itoa(i))
@@ -36,6 +38,7 @@ func Sources(pick Pick) []string {
 // writer writes POUs one behind the other; each may call those ahead of it.
 type writer struct {
 	pick      Pick
+	isMixed   bool // bodies are in all languages
 	globals   []variable
 	functions []pou
 	blocks    []pou
@@ -67,7 +70,7 @@ func (w *writer) function(name string) string {
 	w.scope = nil
 	w.know(fixed(ins), referred(refs), locals, temps, []variable{{name: name, typed: u.result}})
 	text := "FUNCTION " + name + " : " + u.result.text + section("VAR_INPUT", w.texts(ins)) + section("VAR_IN_OUT", plain(refs)) +
-		section("VAR", w.texts(locals)) + section("VAR_TEMP", w.texts(temps)) + "\n" + w.body(2+w.pick(3)) + "END_FUNCTION\n"
+		section("VAR", w.texts(locals)) + section("VAR_TEMP", w.texts(temps)) + "\n" + w.code(api.PouFunction, 2+w.pick(3)) + "END_FUNCTION\n"
 	w.functions = append(w.functions, u)
 	return text
 }
@@ -81,7 +84,7 @@ func (w *writer) block(name string) string {
 	w.scope = nil
 	w.know(fixed(ins), referred(refs), outs)
 	text := "FUNCTION_BLOCK " + name + section("VAR_INPUT", w.texts(ins)) + section("VAR_IN_OUT", plain(refs)) + section("VAR_OUTPUT", w.texts(outs)) +
-		w.inner() + w.body(2+w.pick(4)) + "END_FUNCTION_BLOCK\n"
+		w.inner() + w.code(api.PouBlock, 2+w.pick(4)) + "END_FUNCTION_BLOCK\n"
 	w.blocks = append(w.blocks, u)
 	return text
 }
@@ -89,7 +92,7 @@ func (w *writer) block(name string) string {
 // program writes a program.
 func (w *writer) program(name string) string {
 	w.scope = nil
-	return "PROGRAM " + name + w.inner() + w.body(3+w.pick(6)) + "END_PROGRAM\n"
+	return "PROGRAM " + name + w.inner() + w.code(api.PouProgram, 3+w.pick(6)) + "END_PROGRAM\n"
 }
 
 // inner writes the sections that function blocks and programs have: what is kept, what is not, what they know of others.
@@ -103,7 +106,11 @@ func (w *writer) inner() string {
 		}
 	}
 	w.know(locals, fixed(fixedOnes), temps, instances, known)
-	return section("VAR", w.texts(locals)+plain(instances)) + section("VAR CONSTANT", w.texts(fixedOnes)) +
+	word := "VAR"
+	if w.isMixed {
+		word = w.one("VAR", "VAR RETAIN")
+	}
+	return section(word, w.texts(locals)+plain(instances)) + section("VAR CONSTANT", w.texts(fixedOnes)) +
 		section("VAR_TEMP", w.texts(temps)) + section("VAR_EXTERNAL", plain(known)) + "\n"
 }
 

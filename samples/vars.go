@@ -44,6 +44,7 @@ type variable struct {
 	from, to int
 	isRef    bool // VAR_IN_OUT
 	isFixed  bool // it is not assigned
+	addr     string
 	block    *pou
 }
 
@@ -109,7 +110,11 @@ func plain(l []variable) string {
 func (w *writer) texts(l []variable) string {
 	text := ""
 	for _, v := range l {
-		text += v.name + " : " + v.typeText()
+		text += v.name
+		if v.addr != "" {
+			text += " AT " + v.addr
+		}
+		text += " : " + v.typeText()
 		switch {
 		case w.maybe(2):
 		case v.isArray:
